@@ -1,0 +1,1 @@
+"""Offices and lines: forms that are kept through power cuts and sent to two centres."""
