@@ -1,6 +1,6 @@
-"""What happens when a node keeps and when a message comes."""
+"""What happens when a node keeps, when something is sent, and when a message comes."""
 
-from formoffices.books import bring_into, news_for
+from formoffices.books import bring_into, items_of, news_for
 from formoffices.messages import FILLING, FORMS, RECEIPT, SUMMARY, Message
 
 
@@ -12,6 +12,18 @@ def keep_memory(session, place):
         told.append(session.send_off(Message(RECEIPT, place, office, node.items_owed(office))))
     node.owed = []
     return told
+
+
+def send_forms(session, office, centre):
+    """Send what the office has no receipt for from the centre; give back the message's number."""
+    carried = session.nodes[office].items_without_receipt(centre)
+    return session.send_off(Message(FORMS, office, centre, carried))
+
+
+def send_summary(session, centre):
+    """Send the centre's book to the other one; give back the message's number."""
+    carried = items_of(session.nodes[centre].book)
+    return session.send_off(Message(SUMMARY, centre, session.other_centre(centre), carried))
 
 
 def let_come(session, number):

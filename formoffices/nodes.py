@@ -1,6 +1,6 @@
 """A node: its power, its memory, what it owes, and its two slots."""
 
-from formoffices.books import bring_into
+from formoffices.books import bring_into, items_of
 
 
 class Slot:
@@ -72,6 +72,10 @@ class Node:
         receipt = (centre, item)
         if self.holds(item) and receipt not in self.receipts:
             self.receipts.append(receipt)
+
+    def items_without_receipt(self, centre):
+        """Give back the memory's items for which there is no receipt from the centre, by their forms' numbers."""
+        return [item for item in items_of(self.book) if (centre, item) not in self.receipts]
 
     def owe(self, office, item):
         """Owe the office a receipt for the item, if it isn't owed already."""

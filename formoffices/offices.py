@@ -5,7 +5,10 @@ from formoffices.session_calls import perform
 from formoffices.sessions import Session
 
 BEGIN = 0
-HOW_MANY_NUMBERS = {0: 1, 1: 5, 2: 1, 3: 2, 4: 1, 5: 1, 6: 2, 7: 1, 8: 1, 9: 1, 10: 1, 11: 1}
+HOW_MANY_NUMBERS = {
+    0: 1, 1: 5, 2: 1, 3: 2, 4: 1, 5: 1, 6: 2, 7: 1, 8: 1, 9: 1, 10: 1, 11: 1,
+    12: 1, 13: 1, 14: 0, 15: 1, 16: 0, 17: 2, 18: 0, 19: 0, 20: 0, 21: 1, 22: 0,
+}
 
 
 class Line:

@@ -1,13 +1,14 @@
-"""The calls on a session.
+"""The calls that change a session, and which call has which number.
 
 Each takes the session and the call's numbers and gives back what's told behind the 0. What is
 refused is refused ahead of any change, the refusal nearest to 0 first.
 """
 
-from formoffices.books import items_of, make_item, numbers_of
-from formoffices.happenings import keep_memory, let_come
-from formoffices.messages import FORMS, SUMMARY, Message
+from formoffices.books import make_item
+from formoffices.happenings import keep_memory, let_come, send_forms, send_summary
 from formoffices.refusals import NothingThere, check_range
+from formoffices.settling import settle_all
+from formoffices.telling_calls import tell
 
 
 def take(session, numbers):
@@ -72,21 +73,19 @@ def send(session, numbers):
     session.check_office(office)
     session.check_centre(centre)
     node = session.node_with_power(office)
-    carried = [item for item in items_of(node.book) if (centre, item) not in node.receipts]
-    if not carried:
+    if not node.items_without_receipt(centre):
         raise NothingThere()
     session.check_room(1)
-    return [session.send_off(Message(FORMS, office, centre, carried))]
+    return [send_forms(session, office, centre)]
 
 
 def ask(session, numbers):
     """Send a centre's summary to the other one."""
     centre = numbers[0]
     session.check_centre(centre)
-    node = session.node_with_power(centre)
+    session.node_with_power(centre)
     session.check_room(1)
-    summary = Message(SUMMARY, centre, session.other_centre(centre), items_of(node.book))
-    return [session.send_off(summary)]
+    return [send_summary(session, centre)]
 
 
 def deliver(session, numbers):
@@ -111,12 +110,9 @@ def double(session, numbers):
     return [session.send_off(message)]
 
 
-def memory(session, numbers):
-    """Tell a node's book."""
-    place = numbers[0]
-    session.check_node(place)
-    node = session.node_with_power(place)
-    return numbers_of(items_of(node.book))
+def settle(session, numbers):
+    """Settle all."""
+    return [settle_all(session)]
 
 
 CALLS = {
@@ -130,11 +126,13 @@ CALLS = {
     8: deliver,
     9: lose,
     10: double,
-    11: memory,
+    19: settle,
 }
 
 
 def perform(session, number, numbers):
     """Do the call of this number; give back what's told behind the 0."""
+    if number not in CALLS:
+        return tell(session, number, numbers)
     call = CALLS[number]
     return call(session, numbers)

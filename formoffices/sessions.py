@@ -29,6 +29,10 @@ class Session:
         """Refuse a number that no centre has."""
         check_range(number, self.offices, self.offices + 1)
 
+    def centres(self):
+        """Give back the numbers of the first and the second centre."""
+        return [self.offices, self.offices + 1]
+
     def node_with_power(self, number):
         """Give back the node of this number; refuse one without power."""
         node = self.nodes[number]

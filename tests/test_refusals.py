@@ -3,7 +3,8 @@
 import unittest
 
 from tests.lines import (
-    LineCase, answers_of, ask, begin, cut, deliver, double, keep, lose, memory, send, take, torn, up,
+    LineCase, acknowledged, answers_of, ask, begin, cut, deliver, disk, double, even, flight, full_line, keep, lacks,
+    lose, memory, message, owed, receipts, send, settle, state, take, taken, torn, up,
 )
 
 FAR = 10 ** 18
@@ -11,17 +12,13 @@ FAR = 10 ** 18
 # One call of each kind but begin, with numbers that would do and with numbers that would be refused.
 RIGHT_CALLS = [
     take(0, 1, 1, 0, 0), keep(0), torn(0, 0), cut(0), up(0), send(0, 1), ask(1),
-    deliver(1), lose(1), double(1), memory(0),
+    deliver(1), lose(1), double(1), memory(0), disk(0), receipts(0), flight(), message(1), acknowledged(),
+    lacks(0, 2), even(), settle(), state(), owed(1), taken(),
 ]
 WRONG_CALLS = [
     take(9, 0, 0, 2, -1), keep(-1), torn(7, 2), cut(99), up(-FAR), send(FAR, 0), ask(0),
-    deliver(0), lose(-5), double(FAR), memory(6),
+    deliver(0), lose(-5), double(FAR), memory(6), disk(-1), receipts(4), message(-FAR), lacks(-1, FAR), owed(0),
 ]
-
-
-def full_line(offices, more):
-    """Give back a line that has begun and put so many summaries under way, as messages 1 to more."""
-    return [begin(offices)] + [ask(offices)] * more
 
 
 class BeforeABegin(LineCase):
@@ -42,8 +39,11 @@ class BeforeABegin(LineCase):
             (take(0, 1, 1, 0, 0), [-7]),
             (cut(0), [-7]),
             (ask(1), [-7]),
+            (settle(), [-7]),
             (begin(1), [0]),
             (memory(0), [0]),
+            (taken(), [0]),
+            (state(), [0, 1, 0, 0, 0, 1, 0, 0, 0, 1, 0, 0, 0]),
             (ask(1), [0, 1]),
         )
 
@@ -85,9 +85,9 @@ class Ranges(LineCase):
         self.refused(1, take(0, 1, 1, 1, -1))
         self.refused(1, take(0, 1, 1, 1, 1000))
 
-    def test_keep_cut_and_memory_are_for_every_node(self):
+    def test_keep_cut_memory_and_disk_are_for_every_node(self):
         for offices in (1, 2, 3, 4):
-            for call in (keep, cut, memory):
+            for call in (keep, cut, memory, disk):
                 for node in range(offices + 2):
                     self.answered(offices, call(node))
                 for node in (-1, offices + 2, FAR, -FAR):
@@ -128,15 +128,65 @@ class Ranges(LineCase):
                 self.refused(offices, ask(centre))
 
 
+    def test_receipts_are_for_an_office(self):
+        for offices in (1, 2, 3, 4):
+            for office in range(offices):
+                self.answered(offices, receipts(office))
+            for office in (-1, offices, offices + 1, offices + 2, FAR, -FAR):
+                self.refused(offices, receipts(office))
+
+    def test_owed_is_for_a_centre(self):
+        for offices in (1, 2, 3, 4):
+            for centre in (offices, offices + 1):
+                self.answered(offices, owed(centre))
+            for centre in (-1, 0, offices - 1, offices + 2, FAR, -FAR):
+                self.refused(offices, owed(centre))
+
+    def test_lacks_is_for_two_nodes(self):
+        for offices in (1, 2, 3, 4):
+            for node in range(offices + 2):
+                for other in range(offices + 2):
+                    self.answered(offices, lacks(node, other))
+                for other in (-1, offices + 2, FAR, -FAR):
+                    self.refused(offices, lacks(node, other))
+                    self.refused(offices, lacks(other, node))
+            self.refused(offices, lacks(-FAR, FAR))
+
+
 class WithoutPower(LineCase):
     def test_calls_on_a_node_without_power(self):
-        for call in (take(0, 1, 1, 0, 0), keep(0), torn(0, 0), torn(0, 1), cut(0), send(0, 1), memory(0)):
+        for call in (
+            take(0, 1, 1, 0, 0), keep(0), torn(0, 0), torn(0, 1), cut(0), send(0, 1), memory(0), receipts(0),
+            lacks(0, 1), lacks(1, 0), lacks(0, 0),
+        ):
             self.check((begin(1), [0]), (cut(0), [0]), (call, [-3]))
             self.check((begin(1), [0]), (torn(0, 0), [0]), (call, [-3]))
 
     def test_calls_on_a_centre_without_power(self):
-        for call in (keep(2), torn(2, 0), torn(2, 1), cut(2), ask(2), memory(2)):
+        for call in (
+            keep(2), torn(2, 0), torn(2, 1), cut(2), ask(2), memory(2), owed(2), lacks(2, 0), lacks(1, 2), lacks(2, 2),
+        ):
             self.check((begin(1), [0]), (cut(2), [0]), (call, [-3]))
+
+    def test_lacks_of_two_nodes_without_power(self):
+        self.check((begin(1), [0]), (cut(0), [0]), (cut(2), [0]), (lacks(0, 2), [-3]), (lacks(2, 0), [-3]),
+                   (lacks(1, 1), [0]))
+
+    def test_disk_and_the_calls_that_take_no_node_need_no_power(self):
+        line = [begin(1), take(0, 1, 1, 0, 5), keep(0), ask(1), cut(0), cut(1), cut(2)]
+        self.check_after(
+            line,
+            (disk(0), [0, 1, 1, 0, 0, 1, 1, 0, 5]),
+            (disk(1), [0, 0, 0, 0, 0]),
+            (disk(2), [0, 0, 0, 0, 0]),
+            (flight(), [0, 1, 3, 1, 2, 0]),
+            (message(1), [0]),
+            (acknowledged(), [0]),
+            (even(), [0, 0]),
+            (state(), [0, 0, 1, 0, 0, 0, 0, 0, 0, 0, 0, 0, 0]),
+            (taken(), [0, 1, 1, 0, 5]),
+            (settle(), [0, 6]),
+        )
 
     def test_only_the_node_that_is_told_counts(self):
         self.check(
@@ -148,12 +198,15 @@ class WithoutPower(LineCase):
             (ask(3), [0, 2]),
             (keep(1), [0, 1]),
             (memory(3), [0]),
+            (receipts(1), [0]),
+            (owed(3), [0]),
+            (lacks(1, 3), [0, 1]),
         )
 
 
 class NotThere(LineCase):
     def test_a_message_that_is_not_under_way(self):
-        for call in (deliver, lose, double):
+        for call in (deliver, lose, double, message):
             for number in (0, 1, -1, FAR, -FAR):
                 self.check((begin(1), [0]), (call(number), [-4]))
             for number in (0, 2, -1, FAR, -FAR):
@@ -248,9 +301,23 @@ class TooMany(LineCase):
         self.check_after(line, (ask(1), [-5]), (deliver(2), [0, 1, 42]), (ask(1), [-5]), (deliver(42), [0, 1]),
                          (memory(1), [0, 1, 1, 0, 9]))
 
+    def test_settle_finds_room_with_40_under_way(self):
+        self.check_after(full_line(1, 40), (settle(), [0, 2]), (ask(1), [0, 43]))
+
     def test_calls_that_send_nothing_go_on_with_40_under_way(self):
+        told = [number for sent in range(1, 41) for number in (sent, 3, 1, 2, 0)]
         self.check_after(
             full_line(1, 40),
+            (disk(0), [0, 0, 0, 0, 0]),
+            (receipts(0), [0]),
+            (flight(), [0] + told),
+            (message(40), [0]),
+            (acknowledged(), [0]),
+            (lacks(0, 1), [0]),
+            (even(), [0, 1]),
+            (state(), [0, 1, 0, 0, 0, 1, 0, 0, 0, 1, 0, 0, 0]),
+            (owed(2), [0]),
+            (taken(), [0]),
             (take(0, 1, 1, 0, 0), [0, 1]),
             (memory(0), [0, 1, 1, 0, 0]),
             (torn(0, 0), [0]),
@@ -274,6 +341,24 @@ class SeveralAtOnce(LineCase):
             (torn(0, 2), [-1]),
             (send(0, 0), [-1]),
             (send(0, 3), [-1]),
+            (lacks(0, 3), [-1]),
+            (lacks(-1, 0), [-1]),
+            (lacks(0, 1), [-3]),
+        )
+        self.check(
+            (begin(1), [0]),
+            (cut(0), [0]),
+            (cut(1), [0]),
+            (cut(2), [0]),
+            (receipts(1), [-1]),
+            (receipts(2), [-1]),
+            (receipts(0), [-3]),
+            (owed(0), [-1]),
+            (owed(3), [-1]),
+            (owed(1), [-3]),
+            (owed(2), [-3]),
+            (disk(3), [-1]),
+            (memory(3), [-1]),
         )
 
     def test_a_range_ahead_of_nothing_to_send_and_of_40_under_way(self):
@@ -339,17 +424,21 @@ class RefusedChangesNothing(LineCase):
         self.check_after(line, (keep(2), [-5]), (cut(2), [0]), (up(2), [0, 0, 0]))
 
     def test_a_torn_that_is_refused_leaves_power_and_slots(self):
+        told = [0, 1, 1, 2, 1, 1, 5, 0, 5]
         self.check(
             (begin(1), [0]),
             (take(0, 1, 5, 0, 5), [0, 1]),
             (keep(0), [0, 1]),
+            (keep(0), [0, 2]),
             (torn(0, 2), [-1]),
             (torn(0, -1), [-1]),
             (memory(0), [0, 1, 5, 0, 5]),
+            (disk(0), told),
             (cut(0), [0]),
             (torn(0, 1), [-3]),
             (torn(0, 0), [-3]),
-            (up(0), [0, 1, 1]),
+            (disk(0), told),
+            (up(0), [0, 2, 1]),
         )
 
     def test_an_up_where_power_is_leaves_the_memory(self):
