@@ -194,7 +194,7 @@ def draw_line(seed):
 
 @functools.cache
 def drawn_lines():
-    """Give back drawn lines, each with how many offices there are; the seeds are written, so they're always the same."""
+    """Give back drawn lines, each with how many offices there are; by written seeds, so they're always the same."""
     return [draw_line(seed) for seed in range(12)]
 
 
